@@ -1,0 +1,1 @@
+"""Formulas of time over systems of states."""
