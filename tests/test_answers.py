@@ -6,12 +6,12 @@ import io
 import unittest
 from unittest import mock
 
+from helper import (
+    HIGHEST, LOWEST, Untouchable, check_call, counted, path_call, same_call, system_calls, text_bytes, word_call
+)
 from pathtimes.reading import read_calls
 from pathtimes.states import StateSystem
-from pathtimes.system import answers, perform
-
-LOWEST = -2147483648
-HIGHEST = 2147483647
+from pathtimes.system import answers, ask, build
 
 # A list of calls, and the number that each of them answers.
 EXAMPLES = (
@@ -48,25 +48,23 @@ EXAMPLES = (
     ([0, 3, 0, 65, 1, 2, 1, 1, 3, 1, 0, 2, 1, 2, 1], [0, -1, 0, -1, 0, -1]),
     ([2, 0, 0, 7, 2, 0, 0, 7, 2, 0, 0, 0, 2, 0, 0, 0], [0, 0, 0, 0]),
     ([3, 0, 7, 3, 0, 7, 3, 0, 0, 3, 0, 0], [0, 0, 0, 0]),
+    ([4, 0], [-10]),
+    ([4, 1, 48], [1]),
+    ([4, 3, 97, 85, 41], [-12]),
+    ([3, 0, 1, 2, 0, 0, 1, 4, 1, 48, 4, 1, 49, 4, 1, 97, 1, 0, 1, 4, 1, 97], [0, 0, 0, 1, 0, 0, 1]),
+    ([5, 0, 0, 1, 97], [-2]),
+    ([5, 0, 1, 0, 1, 97], [-4]),
+    ([3, 0, 1, 2, 0, 0, 1, 5, 0, 1, 0, 1, 97, 5, 0, 2, 0, 0, 2, 33, 97], [0, 0, 0, 1]),
+    ([6, 0, 1, 1, 1, 97], [1]),
+    ([6, 0, 1, 4294967294, 1, 97], [0]),
+    ([6, LOWEST, 1, 1, 1, 97, 6, HIGHEST, 1, 1, 1, 97], [-2, -2]),
+    ([7, 1, 97, 1, 98], [0]),
+    ([7, 1, 97, 3, 32, 97, 32], [1]),
+    ([7, 0, 0], [-10]),
+    ([7, 1, 97, 0], [-2000]),
+    ([7, 7, 88, 88, 88, 88, 88, 88, 97, 2, 88, 97], [-3]),
 )
-
-
-def counted(numbers):
-    """The numbers, each with its count of 1 ahead of it."""
-    told = []
-    for number in numbers:
-        told.extend([1, number])
-    return told
-
-
-class Untouchable(list):
-    """A list that does not let itself be changed, not for a while either."""
-
-    def refuse(self, *given, **named):
-        raise AssertionError("what was handed in is changed")
-
-    append = extend = insert = pop = remove = clear = sort = reverse = refuse
-    __setitem__ = __delitem__ = __iadd__ = __imul__ = refuse
+MOST_CALLS = 400
 
 
 class Answers(unittest.TestCase):
@@ -85,12 +83,38 @@ class Answers(unittest.TestCase):
             self.assertEqual({type(number) for number in told} - {int}, set())
 
     def test_400_calls_of_one_sort(self):
-        for call in ([0, 64], [1, 0, 65535], [2, 0, 0, 1], [3, 0, -1]):
-            self.assertEqual(answers(call * 400), [1, 0] * 400)
+        for call in ([0, 64], [1, 0, 65535], [2, 0, 0, 1], [3, 0, -1], word_call(0, [1], "!a"), same_call("a", "b")):
+            self.assertEqual(answers(call * MOST_CALLS), [1, 0] * MOST_CALLS)
+        self.assertEqual(answers(check_call("0") * MOST_CALLS), [1, 1] * MOST_CALLS)
+        self.assertEqual(answers(path_call(0, [0], "a") * MOST_CALLS), [1, -4] * MOST_CALLS)
 
     def test_400_calls_of_every_sort(self):
         calls = [0, 64, 1, 63, 9, 2, 63, 0, 1, 3, 63, 1, 0, 1, 1, 63, 9, 2, 63, 0, 1, 3, 63, 1] * 50
         self.assertEqual(answers(calls), counted([0, 0, 0, 0, 0, -1, -1, -1] * 50))
+
+    def test_calls_of_all_eight_sorts_behind_each_other(self):
+        calls = system_calls([1, 2], [(0, 1), (1, 0)], [0])
+        calls += check_call("GFb") + path_call(0, [0, 1], "XXa") + word_call(1, [1, 2], "XXa") + same_call("Fa", "1Ua")
+        calls += [1, 1, 0] + check_call("GFb") + path_call(0, [0, 1], "Fb") + [0, 1] + check_call("0")
+        expected = counted([0, 0, 0, 0, 0, 0, 1, 1, 0, 1, 0, 0, 0, 0, 1])
+        self.assertEqual(answers(calls), expected)
+
+    def test_what_is_asked_changes_nothing(self):
+        asked = check_call("GFb") + path_call(0, [0, 1], "XXa") + word_call(1, [1, 2], "XXa") + same_call("Fa", "Ga")
+        asked += check_call("a&") + path_call(0, [1], "a") + word_call(2, [1, 2], "a") + same_call("a", "b?")
+        calls = system_calls([1, 2], [(0, 1), (1, 0)], [0])
+        expected = counted([0, 0, 0, 0, 0, 0] + [1, 1, 0, 0, -12, -4, -2, -2001] * 20)
+        self.assertEqual(answers(calls + asked * 20), expected)
+
+    def test_the_same_list_twice(self):
+        calls = system_calls([1, 2, 3], [(0, 1), (1, 0), (1, 2), (2, 2)], [0, 1])
+        for text in ("GFa", "F(a&b)", "aUb", "X(a|", "FG(a&b)|GF!a"):
+            calls += check_call(text) + path_call(2, [0, 1, 2], text) + word_call(1, [2, 1], text) + same_call(text, "a")
+        first = answers(calls)
+        other = answers(same_call("Fa", "Fb") + [0, 3, 3, 1, 1] + check_call("GFa"))
+        self.assertEqual(other, counted([0, 0, 0, 1]))
+        self.assertEqual(answers(list(calls)), first)
+        self.assertEqual(answers(calls), first)
 
     def test_what_is_handed_in_is_not_changed(self):
         for calls, numbers in EXAMPLES:
@@ -120,20 +144,25 @@ class Answers(unittest.TestCase):
         self.assertEqual(out.getvalue(), "")
 
 
-class Perform(unittest.TestCase):
+class Dispatch(unittest.TestCase):
     def test_each_number_goes_where_it_belongs(self):
         system = StateSystem()
-        self.assertEqual(perform(system, 0, [5]), 0)
-        self.assertEqual(perform(system, 1, [4, 3]), 0)
-        self.assertEqual(perform(system, 2, [3, 1, 9]), 0)
-        self.assertEqual(perform(system, 3, [2, -1]), 0)
+        self.assertEqual(build(system, 0, [5]), 0)
+        self.assertEqual(build(system, 1, [4, 3]), 0)
+        self.assertEqual(build(system, 2, [3, 1, 9]), 0)
+        self.assertEqual(build(system, 3, [2, -1]), 0)
         self.assertEqual((system.size, system.marks), (5, [0, 0, 0, 0, 3]))
         self.assertEqual((system.arcs, system.starts), ([0, 0, 0, 2, 0], 4))
 
-    def test_calls_that_are_not_built_give_no_answer(self):
-        for calls in ([4, 0], [5, 0, 0, 0], [6, 0, 0, 0], [7, 0, 0]):
-            with self.subTest(calls=calls), self.assertRaises(NotImplementedError):
-                answers(calls)
+    def test_each_question_goes_where_it_belongs(self):
+        system = StateSystem()
+        system.mark(0, 1)
+        system.arc(0, 0, 1)
+        system.start(0, 1)
+        self.assertEqual(ask(system, 4, [], [text_bytes("!a")]), 0)
+        self.assertEqual(ask(system, 5, [0], [[0], text_bytes("a")]), 1)
+        self.assertEqual(ask(system, 6, [0], [[2], text_bytes("a")]), 0)
+        self.assertEqual(ask(system, 7, [], [text_bytes("a"), text_bytes("a")]), 1)
 
 
 class Layout(unittest.TestCase):

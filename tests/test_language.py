@@ -23,6 +23,12 @@ UNUSED_WORDS = re.compile(
     r"\b(type|typing|typing_extensions|enum|Enum|IntEnum|StrEnum|Flag|IntFlag|Generic|Protocol|ABC|ABCMeta|namedtuple"
     r"|NamedTuple|TypedDict|TYPE_CHECKING|abstractmethod)\b|dataclass|overload|contextmanager"
 )
+# Names that a method or a value may have although Python's own values have methods of that name.
+FREE_NAMES = set("count index title find get join lower upper split strip copy add discard".split())
+# Names that no value may have.
+KEPT_NAMES = set(
+    "items keys values pop update append clear extend insert remove reverse setdefault sort args encode format".split()
+)
 SPECIAL = ("__init__", "__eq__", "__repr__", "__str__", "__len__")
 TOP = (ast.ImportFrom, ast.FunctionDef, ast.ClassDef, ast.Assign, ast.Expr)
 STATEMENTS = TOP + (
@@ -189,6 +195,74 @@ class Language(unittest.TestCase):
             made = isinstance(node.value, ast.Call) and isinstance(node.value.func, ast.Name)
             self.assertFalse(isinstance(node.value, ast.Set), where)
             self.assertFalse(made and node.value.func.id in ("set", "frozenset"), where)
+
+    def test_no_name_is_a_method_and_a_value(self):
+        given = set()
+        for where, node in self.nodes(ast.Attribute):
+            if isinstance(node.ctx, ast.Store):
+                given.add(node.attr)
+                self.assertNotIn(node.attr, KEPT_NAMES, where)
+        self.assertEqual(given & self.own_methods, set())
+        for name in (given | self.own_methods) - FREE_NAMES - set(SPECIAL):
+            for value in ("", 0, [], {}, set(), b"", ()):
+                self.assertFalse(hasattr(value, name), name)
+
+    def test_locals_are_not_called_like_classes_or_imports(self):
+        for name, tree in self.trees.items():
+            taken = {part.name for part in tree.body if isinstance(part, ast.ClassDef)}
+            for node in tree.body:
+                if isinstance(node, ast.ImportFrom):
+                    taken.update(part.asname or part.name for part in node.names)
+            for node in ast.walk(tree):
+                if isinstance(node, ast.arg):
+                    self.assertNotIn(node.arg, taken, name)
+                if isinstance(node, ast.Name) and isinstance(node.ctx, ast.Store):
+                    self.assertNotIn(node.id, taken, name)
+
+    def test_what_stands_at_the_top_is_only_read(self):
+        tops = set()
+        for tree in self.trees.values():
+            for node in tree.body:
+                if isinstance(node, ast.Assign) and isinstance(node.value, (ast.List, ast.Dict)):
+                    tops.add(node.targets[0].id)
+                    inner = [part for part in ast.walk(node.value) if part is not node.value]
+                    self.assertFalse(any(isinstance(part, (ast.List, ast.Dict)) for part in inner), node.targets[0].id)
+        for name, tree in self.trees.items():
+            around = {child: node for node in ast.walk(tree) for child in ast.iter_child_nodes(node)}
+            for node in ast.walk(tree):
+                if not isinstance(node, ast.Name) or node.id not in tops or isinstance(node.ctx, ast.Store):
+                    continue
+                outer = around[node]
+                read = isinstance(outer, ast.Subscript) and outer.value is node and isinstance(outer.ctx, ast.Load)
+                read = read or isinstance(outer, ast.Compare)
+                read = read or isinstance(outer, ast.Attribute) and outer.attr in ("get", "index", "count")
+                self.assertTrue(read, f"{name}.py:{node.lineno}")
+
+    def test_what_is_walked_at_once_is_not_kept(self):
+        walked = ("zip", "enumerate", "reversed", "range")
+        for name, tree in self.trees.items():
+            around = {child: node for node in ast.walk(tree) for child in ast.iter_child_nodes(node)}
+            for node in ast.walk(tree):
+                if not isinstance(node, ast.Call):
+                    continue
+                by_name = isinstance(node.func, ast.Name) and node.func.id in walked
+                by_method = isinstance(node.func, ast.Attribute) and node.func.attr in ("items", "keys", "values")
+                if by_name or by_method:
+                    outer = around[node]
+                    fine = isinstance(outer, (ast.For, ast.comprehension)) and outer.iter is node
+                    fine = fine or isinstance(outer, ast.Call) and isinstance(outer.func, ast.Name) and (
+                        outer.func.id in ("list", "tuple", "dict", "sorted", "sum", "any", "all", "enumerate", "zip"))
+                    self.assertTrue(fine, f"{name}.py:{node.lineno}")
+
+    def test_errors_and_signs_that_are_out(self):
+        for where, node in self.nodes(ast.BinOp):
+            if isinstance(node.op, ast.Pow):
+                self.assertIsInstance(node.right, ast.Constant, where)
+        for where, node in self.nodes(ast.Constant):
+            if isinstance(node.value, str):
+                self.assertNotIn("%", node.value, where)
+        for where, node in self.nodes(ast.Try, ast.Assert, ast.AnnAssign):
+            self.fail(where)
 
     def test_is_stands_beside_none_true_and_false_alone(self):
         for where, node in self.nodes(ast.Compare):
