@@ -11,14 +11,12 @@ NO_PATH = -4
 
 def can_go_round(count, u):
     """Whether there may be so many moments, and the one at u may come behind the last."""
-    return 1 <= count <= MOST_MOMENTS and 0 <= u < count
+    return 0 <= u < count <= MOST_MOMENTS
 
 
 def is_path(system, states, u):
     """Whether the states, and those from u on again and again, are a path of the system."""
-    for state in states:
-        if not system.has_state(state):
-            return False
+    # A number that is no state's needs no question of its own: it's no start, and no arc leads to it.
     if system.starts >> states[0] & 1 == 0:
         return False
     for state, later in zip(states, states[1:] + [states[u]]):

@@ -14,7 +14,7 @@ ALIKE = "<->"
 NEXT = "X"
 UNTIL = "U"
 UNLESS = "W"
-TIMES = (NEXT, UNTIL, UNLESS)
+TIMES = ("X", "U", "W")
 
 # How much a sign binds that waits for its right side; behind a bracket nothing ahead of it is done.
 BINDS = {"(": 0, "<->": 1, "->": 2, "|": 3, "&": 4, "U": 5, "R": 5, "W": 5, "!": 6, "X": 6, "F": 6, "G": 6}

@@ -50,6 +50,29 @@ class Laws(unittest.TestCase):
         self.assertEqual(last_answer([0, 64] + same_call("Fa", "1Ua")), 1)
 
 
+class Rounds(unittest.TestCase):
+    """Pairs that differ only on rows on which a wish is put off again and again, and granted again and again."""
+
+    def test_rows_that_change_at_each_moment(self):
+        for text in (
+            "G(a<->X!a)&GFa", "GFa&G(a<->X!a)", "GF(a&b)&G(a<->X!a)", "G(a<->X!a)&G!Ga", "G!Ga&G(a<->X!a)",
+            "G(a<->X!a)&G(bU(a&b))", "G(bU(a&b))&G(a<->X!a)", "G(a<->X!a)&G!(bWa&!b)", "XG(a<->X!a)&GF(a&b)",
+            "G(a<->X!a&X!b)&GF(a&b)", "G!(!aW(a&b))&G(b<->Xb)", "G(a<->XX!a)&GF(a&b)",
+        ):
+            with self.subTest(text=text):
+                self.assertEqual(same_of(text, "0"), 0)
+                self.assertEqual(same_of("0", text), 0)
+
+    def test_wishes_that_such_rows_cannot_grant(self):
+        for text in (
+            "G(a<->X!a)&FGa", "FGa&G(a<->X!a)", "G(a<->X!a)&GF(a&Xa)", "G(a<->X!a)&F(bU(a&Xa))", "G(a<->X!a)&(aWGa)&G!b&Xa",
+            "G(b->Xb)&Fb&GF!b", "G(a->X!b)&G(b->X!a)&FG(a&b)",
+        ):
+            with self.subTest(text=text):
+                self.assertEqual(same_of(text, "0"), 1)
+                self.assertEqual(same_of("0", text), 1)
+
+
 class Letters(unittest.TestCase):
     def test_letters_that_only_one_names(self):
         for a, b, expected in (
