@@ -55,6 +55,7 @@ class Rounds(unittest.TestCase):
 
     def test_rows_that_change_at_each_moment(self):
         for text in (
+            "G(a<->X!a)&Fa", "G(a<->X!a)&(bUa)", "G(a<->X!a)&!Ga", "G(a<->X!a)&!(aWb)", "G(a<->X!a)&(bR!a)",
             "G(a<->X!a)&GFa", "GFa&G(a<->X!a)", "GF(a&b)&G(a<->X!a)", "G(a<->X!a)&G!Ga", "G!Ga&G(a<->X!a)",
             "G(a<->X!a)&G(bU(a&b))", "G(bU(a&b))&G(a<->X!a)", "G(a<->X!a)&G!(bWa&!b)", "XG(a<->X!a)&GF(a&b)",
             "G(a<->X!a&X!b)&GF(a&b)", "G!(!aW(a&b))&G(b<->Xb)", "G(a<->XX!a)&GF(a&b)",
